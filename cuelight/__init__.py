@@ -1,0 +1,1 @@
+"""Cuelight: lines with switches and limits that keep places lit."""
