@@ -1,7 +1,7 @@
 """Which lines part places from all sources, and the ways that are left."""
 
 from cuelight.errors import NoCut
-from cuelight.ways import reached, steps_over, way_to
+from cuelight.ways import reached, steps_over, way_to, whole_lines
 
 
 def parted(net, broken, place):
@@ -24,11 +24,6 @@ def weak(net, broken):
     """The whole lines, rising, any one of which alone takes the last way from some place."""
     many = len(kept_places(net, broken))
     return [line for line in whole_lines(net, broken) if len(kept_places(net, broken + [line])) < many]
-
-
-def whole_lines(net, broken):
-    """The lines that are not broken, rising."""
-    return [line for line in range(len(net.lines())) if line not in broken]
 
 
 def kept_places(net, broken):

@@ -7,13 +7,18 @@ from cuelight.ways import reached, steps_over, way_to
 def lit(net, closed):
     """The places that are lit, rising."""
     check_state(net, closed, [])
-    return sorted(reached(steps_over(net, closed), net.sources()))
+    return lit_places(net, closed)
 
 
 def loads(net, closed):
     """What each closed line bears."""
     check_state(net, closed, [])
     return borne(net, closed)
+
+
+def lit_places(net, closed):
+    """The places, rising, that closed lines join to a source; the state is not checked."""
+    return sorted(reached(steps_over(net, closed), net.sources()))
 
 
 def check_state(net, closed, broken):

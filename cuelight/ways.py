@@ -1,6 +1,11 @@
 """Ways over some of the lines of a net."""
 
 
+def whole_lines(net, broken):
+    """The lines that are not broken, rising."""
+    return [line for line in range(len(net.lines())) if line not in broken]
+
+
 def steps_over(net, numbers):
     """For each place the steps (line, next place) that lines of these numbers offer there."""
     lines = net.lines()

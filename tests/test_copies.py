@@ -2,9 +2,13 @@
 
 import unittest
 
+from cuelight.best import best
 from cuelight.cuts import keeps, parted, weak
-from cuelight.errors import BadDeed, BadNet, BadState, NoCut
+from cuelight.desks import Desk
+from cuelight.errors import BadDeed, BadNet, BadState, BadText, NoCut, NoPlan
 from cuelight.nets import Net
+from cuelight.notes import read, written
+from cuelight.plans import plan, relit
 from cuelight.states import lit, loads
 from tests.helpers import refused
 
@@ -16,7 +20,25 @@ LINES = [(1, 0, 9), (1, 2, 5), (2, 0, 9), (3, 4, 1), (3, 2, 9)]
 def answers(net):
     """An answer of each function and method that is not refused."""
     return [net.places(), net.needs(), net.sources(), net.lines(), lit(net, [1, 0]), loads(net, [1, 0]),
-            parted(net, [3], 3), parted(net, [4], 2), keeps(net, [3, 0]), weak(net, [3, 0])]
+            parted(net, [3], 3), parted(net, [4], 2), keeps(net, [3, 0]), weak(net, [3, 0]), best(net, [2]),
+            plan(net, [1], [4, 0], 1), relit(net, [1], [4, 0], 1), plan(net, [1, 0], [4, 2], 1), no_plan(net),
+            written(net), asked(Desk(net, [1, 0], [4, 2])), asked(read(written(net)))]
+
+
+def asked(thing):
+    """What the methods of a net or a desk tell."""
+    if type(thing) is Net:
+        return [thing.places(), thing.needs(), thing.sources(), thing.lines()]
+    return [thing.closed(), thing.broken(), thing.lights(), thing.deeds()]
+
+
+def no_plan(net):
+    """The states that are told where there is no plan."""
+    try:
+        plan(net, [1, 0], [4, 2], 0)
+    except NoPlan as error:
+        return error.states
+    raise AssertionError("there is a plan")
 
 
 class Copies(unittest.TestCase):
@@ -68,6 +90,12 @@ class Copies(unittest.TestCase):
         ways[0].append(7)
         ways.pop()
         weak(self.net, [3, 0]).append(7)
+        best(self.net, [2])[1].append(7)
+        for given in plan(self.net, [1], [4, 0], 1) + relit(self.net, [1], [4, 0], 1):
+            given.clear()
+        no_plan(self.net).clear()
+        for given in asked(read(written(self.net))):
+            given.clear()
         self.assertEqual(answers(self.net), first)
 
     def test_functions_change_nothing_that_they_are_handed(self):
@@ -79,7 +107,54 @@ class Copies(unittest.TestCase):
         parted(self.net, broken, 2)
         keeps(self.net, broken)
         weak(self.net, broken)
+        best(self.net, broken)
         self.assertEqual(broken, [3, 0])
+
+    def test_plans_and_desks_change_nothing_that_they_are_handed(self):
+        closed, broken = [2, 1], [4, 3, 0]
+        plan(self.net, closed, broken, 1)
+        relit(self.net, closed, broken, 1)
+        desk = Desk(self.net, closed, broken)
+        desk.does(("mend", 3))
+        desk.does(("open", 1))
+        desk.breaks(2)
+        self.assertEqual((closed, broken), ([2, 1], [4, 3, 0]))
+        closed, broken = [1, 0], [4, 2]
+        refused(self, NoPlan, plan, self.net, closed, broken, 0)
+        self.assertEqual((closed, broken), ([1, 0], [4, 2]))
+
+    def test_a_desk_keeps_copies(self):
+        closed, broken = [1, 0], [4, 2]
+        desk = Desk(self.net, closed, broken)
+        closed.append(3)
+        broken.clear()
+        for given in (self.net.needs(), self.net.sources(), self.net.lines()):
+            given.clear()
+        self.assertEqual(asked(desk), [[0, 1], [2, 4], [0, 1, 2, 4], []])
+        self.assertEqual(desk.does(("mend", 2)), ([], []))
+        self.assertEqual(refused(self, BadState, desk.does, ("close", 2)).why, "ring")
+
+    def test_what_a_desk_gives_may_be_changed(self):
+        desk = Desk(self.net, [1, 0], [4, 2])
+        for given in desk.does(("open", 1)) + desk.breaks(0):
+            given.append(7)
+        first = asked(desk)
+        self.assertEqual(first, [[], [0, 2, 4], [0, 4], [("open", 1), ("break", 0)]])
+        for given in asked(desk):
+            given.append(7)
+            given.reverse()
+        self.assertEqual(asked(desk), first)
+        self.assertEqual(desk.does(("mend", 4)), ([], []))
+        self.assertEqual(asked(desk), [[], [0, 2], [0, 4], [("open", 1), ("break", 0), ("mend", 4)]])
+
+    def test_desks_share_nothing(self):
+        first = answers(self.net)
+        desk, other = Desk(self.net, [1, 0], [4, 2]), Desk(self.net, [1, 0], [4, 2])
+        kept = asked(other)
+        desk.does(("open", 0))
+        desk.breaks(3)
+        self.assertEqual(asked(other), kept)
+        self.assertEqual(answers(self.net), first)
 
     def test_what_is_given_back_is_not_what_was_handed_in(self):
         net = Net([0, 0], [0], [(0, 1, 0), (0, 1, 0)])
@@ -108,6 +183,15 @@ class Copies(unittest.TestCase):
         broken = [3, 1]
         refused(self, NoCut, parted, self.net, broken, 4)
         self.assertEqual(broken, [3, 1])
+        for kind, closed, broken in ((BadState, [2, 1, 0], [4, 3]), (BadState, [4, 3, 2], [1, 0]),
+                                     (BadDeed, [2, 1, 2], [4, 3]), (BadDeed, [2, 1], [4, 1]), (BadDeed, [2], [9, 3])):
+            kept = list(closed), list(broken)
+            refused(self, kind, plan, self.net, closed, broken, 0)
+            refused(self, kind, relit, self.net, closed, broken, 0)
+            refused(self, kind, Desk, self.net, closed, broken)
+            self.assertEqual((closed, broken), kept)
+        refused(self, BadText, read, written(self.net) + "\n")
+        refused(self, BadNet, read, "place 3\nline 0 0 3")
         self.assertEqual(answers(self.net), first)
 
     def test_nets_share_nothing(self):

@@ -14,7 +14,13 @@ LISTED = {
     "nets": {"Net": ["places", "lines", "sources"]},
     "states": {"lit": ["net", "closed"], "loads": ["net", "closed"]},
     "cuts": {"parted": ["net", "broken", "place"], "keeps": ["net", "broken"], "weak": ["net", "broken"]},
+    "best": {"best": ["net", "broken"]},
+    "plans": {"plan": ["net", "closed", "broken", "dark"], "relit": ["net", "closed", "broken", "dark"]},
+    "desks": {"Desk": ["does", "breaks", "closed", "broken", "lights", "deeds"]},
+    "notes": {"written": ["net"], "read": ["text"]},
 }
+
+OUTSIDE = [("itertools", ["combinations"])]
 
 
 def files():
@@ -38,9 +44,13 @@ class Interface(unittest.TestCase):
                 else:
                     self.assertEqual(list(inspect.signature(found).parameters), parts)
 
-    def test_arguments_of_net(self):
+    def test_arguments_of_classes_and_methods(self):
         net = importlib.import_module("cuelight.nets").Net
         self.assertEqual(list(inspect.signature(net).parameters), ["needs", "sources", "lines"])
+        desk = importlib.import_module("cuelight.desks").Desk
+        self.assertEqual(list(inspect.signature(desk).parameters), ["net", "closed", "broken"])
+        self.assertEqual(list(inspect.signature(desk.does).parameters), ["self", "deed"])
+        self.assertEqual(list(inspect.signature(desk.breaks).parameters), ["self", "line"])
 
 
 class Files(unittest.TestCase):
@@ -64,6 +74,8 @@ class Files(unittest.TestCase):
             for part in ast.walk(ast.parse(source(name))):
                 self.assertNotIsInstance(part, ast.Import)
                 if isinstance(part, ast.ImportFrom):
+                    if (part.module, [one.name for one in part.names]) in OUTSIDE:
+                        continue
                     self.assertTrue(part.module.startswith("cuelight."), part.module)
                     defined = ast.parse(source(part.module.split(".")[1] + ".py")).body
                     for one in part.names:
